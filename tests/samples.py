@@ -1,0 +1,122 @@
+"""Objects, books and trees that several test files use."""
+
+import itertools
+
+
+class Hostile:
+    """An object that can neither be compared, measured, iterated, indexed, hashed nor tested."""
+
+    __hash__ = None
+
+    def _refuse(self, *rest):
+        raise RuntimeError("this object was asked")
+
+    __eq__ = __ne__ = __lt__ = __le__ = __gt__ = __ge__ = _refuse
+    __len__ = __iter__ = __getitem__ = __bool__ = __contains__ = __index__ = __int__ = _refuse
+    __str__ = __repr__ = __add__ = __radd__ = __sub__ = __rsub__ = _refuse
+
+
+class EqualToAll:
+    """An object that says that it is equal to each other one."""
+
+    def __eq__(self, other):
+        return True
+
+    def __hash__(self):
+        return 0
+
+
+def nested(levels, kind):
+    thing = kind()
+    for _ in range(levels):
+        thing = kind([thing])
+    return thing
+
+
+def self_held():
+    thing = []
+    thing.append(thing)
+    return thing
+
+
+# No integers, and nothing that is a rule, a step, a book or a tree.
+NO_NUMBERS = [
+    None, True, False, "", "0", "1", "(1, ())", b"", b"\x00", [], [0], [1], (), (0,), (1,), ((),),
+    {}, {0: 0}, {1: ()}, set(), {0}, frozenset([1]), range(2), iter(()), object(), object, int, tuple,
+    len, lambda: 0, ValueError(), NotImplemented, Ellipsis, Hostile(), EqualToAll(),
+    nested(99, list), nested(99, tuple), self_held(),
+]
+BIG = 10 ** 59
+OTHERS = NO_NUMBERS + [0, 1, -1, 2, 3, BIG, -BIG]
+
+EXAMPLE = (2, ((1, 0, 1, (0, 0)),))
+EXAMPLE_TREE = (1, (-1, 0), (0, 1))
+
+ONE_STATE = (1, ())
+# Under a parent in state 0, state 0 can go two ways; the ring 0 -> 1 -> 0 makes runs without an end.
+TWO_STATES = (2, (
+    (0, 0, 1, (1, 0)),
+    (0, 1, 0, (0, 1)),
+    (1, 0, 1, (1, 1)),
+    (0, 0, 1, (0, 0)),
+))
+THREE_STATES = (3, (
+    (2, 0, 1, (1, 2, 0)),
+    (0, 2, 0, (2, 1, 0)),
+    (2, 0, 2, (0, 0, 0)),
+    (1, 1, 2, (0, 2, 2)),
+    (2, 0, 1, (0, 1, 2)),
+))
+FOUR_STATES = (4, (
+    (3, 0, 3, (3, 2, 1, 0)),
+    (0, 3, 1, (1, 1, 1, 1)),
+    (3, 0, 2, (0, 1, 2, 3)),
+    (2, 2, 0, (1, 2, 3, 0)),
+    (1, 2, 3, (2, 2, 0, 0)),
+))
+BOOKS = [ONE_STATE, EXAMPLE, TWO_STATES, THREE_STATES, FOUR_STATES]
+
+
+def all_trees(n, nodes):
+    """Every tree of a book with n states and with so many nodes."""
+    for outside in range(n):
+        for parents in itertools.product(*[range(-1, node) for node in range(nodes)]):
+            for states in itertools.product(range(n), repeat=nodes):
+                yield (outside, parents, states)
+
+
+def line_of(nodes, outside=0, state=0):
+    return (outside, tuple(range(-1, nodes - 1)), (state,) * nodes)
+
+
+def replaced(thing, path, part):
+    """A copy of nested tuples with another part at the place that the path of indices tells."""
+    if not path:
+        return part
+    head, *rest = path
+    return thing[:head] + (replaced(thing[head], rest, part),) + thing[head + 1:]
+
+
+def paths_of(thing):
+    """The paths to all parts of nested tuples, the whole among them."""
+    yield ()
+    if isinstance(thing, tuple):
+        for place, part in enumerate(thing):
+            for path in paths_of(part):
+                yield (place, *path)
+
+
+def part_at(thing, path):
+    for place in path:
+        thing = thing[place]
+    return thing
+
+
+def misformed(thing):
+    """Copies of nested tuples: a truth for a 0 or 1, or a list for a tuple, at one place."""
+    for path in paths_of(thing):
+        part = part_at(thing, path)
+        if isinstance(part, tuple):
+            yield replaced(thing, path, list(part))
+        elif part in (0, 1):
+            yield replaced(thing, path, bool(part))
