@@ -28,6 +28,11 @@ def are_parents(thing):
     return all([is_integer_from(parent, NO_PARENT, node - 1) for node, parent in enumerate(thing)])
 
 
+def line_of(outside, states):
+    """The line with this outside and these states, from its root downward."""
+    return (outside, tuple(range(NO_PARENT, len(states) - 1)), tuple(states))
+
+
 def check_tree(book, thing):
     """Raise BadBook, then BadTree, for objects that are no book and no tree of it."""
     if not is_tree(book, thing):

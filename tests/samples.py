@@ -74,6 +74,8 @@ FOUR_STATES = (4, (
     (2, 2, 0, (1, 2, 3, 0)),
     (1, 2, 3, (2, 2, 0, 0)),
 ))
+# Runs end, but a child of a root in state 0 can come to rest in either state.
+TWO_RESTS = (2, ((0, 0, 1, (0, 0)), (0, 0, 1, (1, 1))))
 BOOKS = [ONE_STATE, EXAMPLE, TWO_STATES, THREE_STATES, FOUR_STATES]
 
 
@@ -86,7 +88,11 @@ def all_trees(n, nodes):
 
 
 def line_of(nodes, outside=0, state=0):
-    return (outside, tuple(range(-1, nodes - 1)), (state,) * nodes)
+    return line_of_states(outside, (state,) * nodes)
+
+
+def line_of_states(outside, states):
+    return (outside, tuple(range(-1, len(states) - 1)), tuple(states))
 
 
 def replaced(thing, path, part):
@@ -120,3 +126,35 @@ def misformed(thing):
             yield replaced(thing, path, list(part))
         elif part in (0, 1):
             yield replaced(thing, path, bool(part))
+
+
+NO_BOOKS = [
+    *OTHERS, *misformed(EXAMPLE), (5, ()), (2, ((0, 1, 1, (0, 0)),)), (2, (EXAMPLE[1][0], EXAMPLE[1][0])),
+]
+
+# No trees of a book with two states.
+NO_TREES = [
+    *OTHERS,
+    *misformed(EXAMPLE_TREE),
+    *misformed((0, (-1, -1, 1), (1, 1, 0))),
+    (2, (), ()),
+    (0, (-1,), (2,)),
+    (0, (0,), (0,)),
+    (0, (-2,), (0,)),
+    (0, (-1, 1), (0, 0)),
+    (0, (-1,), ()),
+    (0, (), (0,)),
+    (0, ()),
+    (0, (), (), ()),
+    line_of(251),
+]
+
+# No steps in any tree of two nodes by a book of one rule.
+NO_STEPS = [
+    *OTHERS, (0, 1), (1, 1), (2, 0), (-1, 0), (0, -1), (-1, -1), (-2, 0), (0, BIG), (BIG, 0), (0, 0, 0),
+    [0, 0], (False, 0), (0, False), (False, False), ((0,), 0), (0, (0,)), (0, None), (None, 0),
+    ("0", 0), (0, "0"), "00", ((0, 0),), [(0, 0)],
+]
+
+# No states of a book with two states, and no numbers of nodes of a tree with two nodes.
+NO_NUMBERS_BELOW_TWO = [-1, -2, 2, 3, BIG, -BIG, *NO_NUMBERS]

@@ -1,11 +1,12 @@
 """The form of the package: its files, their sizes and imports, and the names of the interface."""
 
 import ast
+import builtins
 import inspect
 import pathlib
 import unittest
 
-from onerest import books, errors, trees
+from onerest import books, ends, errors, outcomes, trees, ways
 
 FOLDER = pathlib.Path(__file__).resolve().parent.parent / "onerest"
 FILES = sorted(FOLDER.glob("*.py"))
@@ -21,10 +22,38 @@ INTERFACE = {
     (trees, "fire_step"): ["book", "tree", "step"],
     (trees, "run_steps"): ["book", "tree", "steps"],
     (trees, "is_at_rest"): ["book", "tree"],
+    (ends, "ending_of"): ["book"],
+    (ends, "ending_holds"): ["book", "certificate"],
+    (ends, "step_bounds"): ["book", "tree"],
+    (ways, "way_result"): ["book", "above", "own", "numbers"],
+    (ways, "node_rests"): ["book", "above", "own"],
+    (ways, "node_results"): ["book", "above", "own", "child"],
+    (ways, "first_way"): ["book", "above", "own"],
+    (outcomes, "outcome_of"): ["book"],
+    (outcomes, "outcome_holds"): ["book", "certificate"],
     (errors, "BadStep"): ["place"],
     (errors, "BadWay"): ["place"],
     (errors, "BadText"): ["line"],
 }
+
+# The builtins and the methods of their values that the package uses, all of them plain ones.
+BUILTINS = {
+    "ValueError", "all", "any", "dict", "enumerate", "int", "bool", "isinstance", "len", "list", "max", "min", "range",
+    "set", "sorted", "str", "sum", "tuple", "zip",
+}
+METHODS = {"append", "extend", "get", "index", "setdefault", "__init__"}
+STATEMENTS = (ast.Global, ast.Nonlocal, ast.Try, ast.With, ast.AsyncFunctionDef, ast.Yield, ast.GeneratorExp, ast.Set)
+
+
+def names_bound(tree):
+    """The names of functions, classes, parameters and variables, wherever they stand."""
+    for node in ast.walk(tree):
+        if isinstance(node, (ast.FunctionDef, ast.ClassDef)):
+            yield node.name
+        elif isinstance(node, ast.arg):
+            yield node.arg
+        elif isinstance(node, ast.Name) and isinstance(node.ctx, ast.Store):
+            yield node.id
 
 
 class Form(unittest.TestCase):
@@ -57,6 +86,37 @@ class Form(unittest.TestCase):
                 self.assertNotIsInstance(node, ast.Import, path)
                 if isinstance(node, ast.ImportFrom):
                     self.assertEqual(node.module.split(".")[0], "onerest", path)
+
+    def test_module_level_holds_no_code(self):
+        for path in FILES:
+            docstring, *rest = ast.parse(path.read_text()).body
+            self.assertIsInstance(docstring.value, ast.Constant, path)
+            for node in rest:
+                self.assertIsInstance(node, (ast.ImportFrom, ast.FunctionDef, ast.ClassDef, ast.Assign), path)
+                if isinstance(node, ast.Assign):
+                    ast.literal_eval(node.value)
+
+    def test_no_name_has_two_meanings(self):
+        for path in FILES:
+            tree = ast.parse(path.read_text())
+            taken = {alias.name for node in tree.body if isinstance(node, ast.ImportFrom) for alias in node.names}
+            taken |= {node.name for node in tree.body if isinstance(node, ast.ClassDef)}
+            locals_bound = {
+                name for node in tree.body if isinstance(node, ast.FunctionDef)
+                for name in names_bound(ast.Module(body=[node], type_ignores=[]))
+            }
+            self.assertEqual(locals_bound & taken, set(), path)
+            self.assertEqual(set(names_bound(tree)) & set(dir(builtins)), set(), path)
+
+    def test_plain_statements_builtins_and_methods_only(self):
+        for path in FILES:
+            tree = ast.parse(path.read_text())
+            for node in ast.walk(tree):
+                self.assertNotIsInstance(node, STATEMENTS, path)
+                if isinstance(node, ast.Name) and node.id in dir(builtins):
+                    self.assertIn(node.id, BUILTINS, path)
+                if isinstance(node, ast.Call) and isinstance(node.func, ast.Attribute):
+                    self.assertIn(node.func.attr, METHODS, path)
 
 
 if __name__ == "__main__":

@@ -3,52 +3,15 @@
 import copy
 import unittest
 
-from onerest.errors import BadBook, BadStep, BadTree
+from onerest.errors import BadStep
 from onerest.trees import enabled_steps, fire_step, is_at_rest, run_steps
-from tests.samples import BIG, BOOKS, EXAMPLE, EXAMPLE_TREE, FOUR_STATES, ONE_STATE, OTHERS
-from tests.samples import THREE_STATES, TWO_STATES, all_trees, line_of, misformed
+from tests.brute import small_trees, steps_by_the_words, tree_by_the_words
+from tests.checks import check_book_and_tree
+from tests.samples import BOOKS, EXAMPLE, EXAMPLE_TREE, FOUR_STATES, NO_STEPS, ONE_STATE, OTHERS
+from tests.samples import THREE_STATES, TWO_STATES, line_of
 
 SECOND_TREE = (1, (-1, 0), (1, 0))
 THIRD_TREE = (1, (-1, 0), (1, 1))
-
-# No steps in any tree of two nodes by a book of one rule.
-NO_STEPS = [
-    *OTHERS, (0, 1), (1, 1), (2, 0), (-1, 0), (0, -1), (-1, -1), (-2, 0), (0, BIG), (BIG, 0), (0, 0, 0),
-    [0, 0], (False, 0), (0, False), (False, False), ((0,), 0), (0, (0,)), (0, None), (None, 0),
-    ("0", 0), (0, "0"), "00", ((0, 0),), [(0, 0)],
-]
-
-
-def steps_by_the_words(book, tree):
-    """Point 5 once more: the steps, found by looking at each pair of a node and a rule."""
-    outside, parents, states = tree
-    found = []
-    for node in range(len(states)):
-        parent_state = outside if parents[node] == -1 else states[parents[node]]
-        for number, rule in enumerate(book[1]):
-            if (rule[0], rule[1]) == (parent_state, states[node]):
-                found.append((node, number))
-    return found
-
-
-def tree_by_the_words(book, tree, step):
-    """Point 5 once more: the new states, one node after the other."""
-    outside, parents, states = tree
-    node, number = step
-    _, _, new, signal = book[1][number]
-    after = list(states)
-    for other in range(len(states)):
-        if other == node:
-            after[other] = new
-        elif parents[other] == node:
-            after[other] = signal[states[other]]
-    return (outside, parents, tuple(after))
-
-
-def small_trees(book):
-    for nodes in range(4):
-        yield from all_trees(book[0], nodes)
-
 
 class Example(unittest.TestCase):
     def test_the_steps_and_the_rest(self):
@@ -270,17 +233,6 @@ class IsAtRest(unittest.TestCase):
     def test_by_name(self):
         self.assertIs(is_at_rest(book=EXAMPLE, tree=THIRD_TREE), True)
         self.assertIs(is_at_rest(tree=EXAMPLE_TREE, book=EXAMPLE), False)
-
-
-def check_book_and_tree(case, asked, *rest):
-    """BadBook, then BadTree, of a function that takes a book and a tree first."""
-    for book in [*OTHERS, *misformed(EXAMPLE), (2, (EXAMPLE[1][0], EXAMPLE[1][0]))]:
-        for tree in (EXAMPLE_TREE, None, (9, (), ())):
-            with case.assertRaises(BadBook):
-                asked(book, tree, *rest)
-    for tree in [*OTHERS, *misformed(EXAMPLE_TREE), (0, (-1,), (2,)), (2, (), ()), (0, (0,), (0,)), line_of(251)]:
-        with case.assertRaises(BadTree):
-            asked(EXAMPLE, tree, *rest)
 
 
 if __name__ == "__main__":

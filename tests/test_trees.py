@@ -4,10 +4,8 @@ import unittest
 
 from onerest.errors import BadBook, BadTree, NoNode
 from onerest.trees import children_of, is_tree, state_above, tree_depth
-from tests.samples import BIG, BOOKS, EXAMPLE, EXAMPLE_TREE, FOUR_STATES, NO_NUMBERS, ONE_STATE, OTHERS
-from tests.samples import THREE_STATES, TWO_STATES, all_trees, line_of, misformed, replaced
-
-NO_BOOKS = [*OTHERS, *misformed(EXAMPLE), (5, ()), (2, ((0, 1, 1, (0, 0)),))]
+from tests.samples import BIG, BOOKS, EXAMPLE, EXAMPLE_TREE, FOUR_STATES, NO_BOOKS, NO_NUMBERS, NO_TREES
+from tests.samples import ONE_STATE, OTHERS, THREE_STATES, TWO_STATES, all_trees, line_of, misformed, replaced
 
 #   0     3
 #  / \    |
@@ -15,23 +13,6 @@ NO_BOOKS = [*OTHERS, *misformed(EXAMPLE), (5, ()), (2, ((0, 1, 1, (0, 0)),))]
 #     |
 #     5 and 6
 FOREST = (2, (-1, 0, 0, -1, 3, 2, 2), (0, 1, 2, 1, 0, 2, 1))
-
-NO_TREES_OF_TWO_STATES = [
-    *OTHERS,
-    *misformed(EXAMPLE_TREE),
-    *misformed((0, (-1, -1, 1), (1, 1, 0))),
-    (2, (), ()),
-    (0, (-1,), (2,)),
-    (0, (0,), (0,)),
-    (0, (-2,), (0,)),
-    (0, (-1, 1), (0, 0)),
-    (0, (-1,), ()),
-    (0, (), (0,)),
-    (0, ()),
-    (0, (), (), ()),
-    line_of(251),
-]
-
 
 class IsTree(unittest.TestCase):
     def test_the_empty_tree(self):
@@ -106,7 +87,7 @@ class IsTree(unittest.TestCase):
             self.assertIs(is_tree(EXAMPLE, (0, (), thing)), empty)
 
     def test_other_lengths(self):
-        for thing in NO_TREES_OF_TWO_STATES:
+        for thing in NO_TREES:
             self.assertIs(is_tree(TWO_STATES, thing), False)
 
     def test_bad_book_whatever_the_other_object_is(self):
@@ -185,7 +166,7 @@ class TreeDepth(unittest.TestCase):
             for tree in (EXAMPLE_TREE, None):
                 with self.assertRaises(BadBook):
                     tree_depth(book, tree)
-        for tree in NO_TREES_OF_TWO_STATES:
+        for tree in NO_TREES:
             with self.assertRaises(BadTree):
                 tree_depth(TWO_STATES, tree)
 
@@ -200,7 +181,7 @@ def check_errors(case, asked):
         for tree, node in ((EXAMPLE_TREE, 0), (None, 0), (None, None), (EXAMPLE_TREE, 9)):
             with case.assertRaises(BadBook):
                 asked(book, tree, node)
-    for tree in NO_TREES_OF_TWO_STATES:
+    for tree in NO_TREES:
         for node in (0, 9, None):
             with case.assertRaises(BadTree):
                 asked(TWO_STATES, tree, node)
