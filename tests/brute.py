@@ -1,8 +1,10 @@
-"""The points once more, by the plainest means: trying everything, without the package's own code."""
+"""The points once more, by the plainest means: trying everything, mostly without the package's own code."""
 
+import functools
 import itertools
 import random
 
+from onerest.outcomes import outcome_of
 from tests.samples import all_trees, line_of_states
 
 
@@ -77,6 +79,22 @@ def rest_by_last_steps(book, tree):
         tree = tree_by_the_words(book, tree, steps[-1])
         steps = steps_by_the_words(book, tree)
     return tree
+
+
+def states_read(reader, tree):
+    """Point 27 once more, each node by itself: the rows from its root down to it."""
+    starts, rows = reader
+    outside, parents, states = tree
+    found = []
+    for node in range(len(states)):
+        path = [node]
+        while parents[path[0]] != -1:
+            path.insert(0, parents[path[0]])
+        row = starts[outside]
+        for place in path:
+            state, row = rows[row][states[place]]
+        found.append(state)
+    return tuple(found)
 
 
 def nodes_of_two_rests(book, most):
@@ -197,3 +215,19 @@ def all_books_that_end():
             rules = [(0, own, 1 - own, signals[k]) for k in range(4) if chosen >> k & 1]
             rules += [(1, other_own, 1 - other_own, signals[k]) for k in range(4) if other >> k & 1]
             yield (2, tuple(rules))
+
+
+def is_settled_by_certificate(book):
+    """Whether the book is settled, with the certificate for it taken at its word."""
+    return not has_ring_by_the_words(book) and outcome_of(book)[0] == "one"
+
+
+@functools.lru_cache(maxsize=None)
+def settled_books(seed, many, n, most_rules):
+    """Settled ones among so many random books, the same ones at each call."""
+    return [book for book in random_books(seed, many, n, most_rules) if is_settled_by_certificate(book)]
+
+
+@functools.lru_cache(maxsize=None)
+def settled_books_of_two_states():
+    return [book for book in all_books_that_end() if is_settled_by_certificate(book)]

@@ -2,8 +2,8 @@
 
 import copy
 
-from onerest.errors import BadBook, BadTree, NoEnd, NoNode, NoOneRest, BadState, BadStep
-from tests.samples import EXAMPLE, EXAMPLE_TREE, NO_BOOKS, NO_NUMBERS_BELOW_TWO, NO_STEPS, NO_TREES
+from onerest.errors import BadBook, BadState, BadStep, BadTree, NoEnd, NoNode, NoOneRest
+from tests.samples import EXAMPLE, EXAMPLE_TREE, NEVER_STEPS, NO_BOOKS, NO_NUMBERS_BELOW_TWO, NO_TREES
 from tests.samples import TWO_RESTS, TWO_STATES
 
 # Parameters of functions: an argument that is good with EXAMPLE and EXAMPLE_TREE, others that
@@ -12,7 +12,7 @@ BOOK = (EXAMPLE, NO_BOOKS, BadBook)
 TREE = (EXAMPLE_TREE, NO_TREES, BadTree)
 NODE = (1, NO_NUMBERS_BELOW_TWO, NoNode)
 STATE = (0, NO_NUMBERS_BELOW_TWO, BadState)
-STEPS = ([], [[step] for step in NO_STEPS], BadStep)
+STEPS = ([], [[step] for step in NEVER_STEPS], BadStep)
 
 
 def check_book_and_tree(case, asked, *rest):

@@ -149,12 +149,30 @@ NO_TREES = [
     line_of(251),
 ]
 
-# No steps in any tree of two nodes by a book of one rule.
-NO_STEPS = [
-    *OTHERS, (0, 1), (1, 1), (2, 0), (-1, 0), (0, -1), (-1, -1), (-2, 0), (0, BIG), (BIG, 0), (0, 0, 0),
+# No steps in any tree of two nodes; then also by a book of one rule.
+NEVER_STEPS = [
+    *OTHERS, (2, 0), (-1, 0), (0, -1), (-1, -1), (-2, 0), (0, BIG), (BIG, 0), (0, 0, 0),
     [0, 0], (False, 0), (0, False), (False, False), ((0,), 0), (0, (0,)), (0, None), (None, 0),
     ("0", 0), (0, "0"), "00", ((0, 0),), [(0, 0)],
 ]
+NO_STEPS = [*NEVER_STEPS, (0, 1), (1, 1)]
 
 # No states of a book with two states, and no numbers of nodes of a tree with two nodes.
 NO_NUMBERS_BELOW_TWO = [-1, -2, 2, 3, BIG, -BIG, *NO_NUMBERS]
+
+# Books by which every tree has one rest: changes go down two and four steps, or on and on, and
+# the readers have six and eight rows.
+TWO_DOWN = (3, ((2, 0, 2, (1, 1, 2)),))
+FOUR_DOWN = (4, ((0, 3, 1, (0, 1, 1, 2)), (1, 2, 1, (0, 1, 3, 3))))
+ON_AND_ON = (3, ((2, 1, 2, (1, 1, 1)), (1, 0, 2, (2, 1, 1))))
+ROUND_AND_ROUND = (4, ((0, 1, 2, (0, 3, 0, 3)), (3, 1, 3, (0, 0, 1, 3))))
+SIX_ROWS = (3, ((0, 2, 1, (1, 1, 1)), (1, 1, 0, (2, 2, 2)), (1, 2, 0, (2, 1, 2))))
+EIGHT_ROWS = (4, (
+    (1, 0, 1, (0, 0, 2, 2)),
+    (1, 2, 0, (2, 2, 0, 0)),
+    (2, 2, 1, (0, 2, 0, 3)),
+    (2, 0, 2, (3, 0, 1, 3)),
+    (3, 0, 1, (1, 2, 2, 0)),
+))
+NO_RULES = [(n, ()) for n in (1, 2, 3, 4)]
+SETTLED = [EXAMPLE, TWO_DOWN, FOUR_DOWN, ON_AND_ON, ROUND_AND_ROUND, SIX_ROWS, EIGHT_ROWS, *NO_RULES]

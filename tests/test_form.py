@@ -6,7 +6,7 @@ import inspect
 import pathlib
 import unittest
 
-from onerest import books, ends, errors, outcomes, trees, ways
+from onerest import books, compared, ends, errors, hands, outcomes, readers, trees, ways, wishes
 
 FOLDER = pathlib.Path(__file__).resolve().parent.parent / "onerest"
 FILES = sorted(FOLDER.glob("*.py"))
@@ -31,6 +31,24 @@ INTERFACE = {
     (ways, "first_way"): ["book", "above", "own"],
     (outcomes, "outcome_of"): ["book"],
     (outcomes, "outcome_holds"): ["book", "certificate"],
+    (readers, "rest_of"): ["book", "tree"],
+    (readers, "join_runs"): ["book", "tree", "one", "other"],
+    (readers, "is_reader"): ["book", "thing"],
+    (readers, "read_states"): ["reader", "tree"],
+    (readers, "reader_of"): ["book"],
+    (readers, "reader_holds"): ["book", "reader"],
+    (readers, "joined_reader"): ["reader", "other"],
+    (compared, "first_difference"): ["book", "other"],
+    (compared, "first_clash"): ["book", "other"],
+    (compared, "spare_rules"): ["book"],
+    (compared, "fewest_rules"): ["book"],
+    (compared, "fewest_removals"): ["book"],
+    (hands, "changed_nodes"): ["book", "tree", "node", "state"],
+    (hands, "change_reach"): ["book"],
+    (hands, "reach_ranks"): ["book"],
+    (hands, "touched_states"): ["book", "held"],
+    (wishes, "least_changes"): ["book", "tree", "node", "state"],
+    (wishes, "shortest_with"): ["book", "outside", "above", "own"],
     (errors, "BadStep"): ["place"],
     (errors, "BadWay"): ["place"],
     (errors, "BadText"): ["line"],

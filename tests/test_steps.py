@@ -7,7 +7,7 @@ from onerest.errors import BadStep
 from onerest.trees import enabled_steps, fire_step, is_at_rest, run_steps
 from tests.brute import small_trees, steps_by_the_words, tree_by_the_words
 from tests.checks import check_book_and_tree
-from tests.samples import BOOKS, EXAMPLE, EXAMPLE_TREE, FOUR_STATES, NO_STEPS, ONE_STATE, OTHERS
+from tests.samples import BOOKS, EXAMPLE, EXAMPLE_TREE, FOUR_STATES, NO_STEPS, ONE_STATE
 from tests.samples import THREE_STATES, TWO_STATES, line_of
 
 SECOND_TREE = (1, (-1, 0), (1, 0))
