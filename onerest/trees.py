@@ -11,14 +11,17 @@ NO_PARENT = -1
 def is_tree(book, thing):
     """Whether the object is a tree of the book."""
     check_book(book)
+    return is_tree_of(book, thing) and are_numbers_below(thing[2], book[0])
+
+
+def is_tree_of(book, thing):
+    """Whether the object is a tuple (outside, parents, entries), with any entries, one for each node."""
     if not is_tuple_of(thing, 3):
         return False
-    outside, parents, states = thing
-    if not is_number_below(outside, book[0]):
+    outside, parents, entries = thing
+    if not is_number_below(outside, book[0]) or not are_parents(parents):
         return False
-    if not are_parents(parents) or not is_tuple_of(states, len(parents)):
-        return False
-    return are_numbers_below(states, book[0])
+    return is_tuple_of(entries, len(parents))
 
 
 def are_parents(thing):

@@ -1,5 +1,6 @@
 """The points once more, by the plainest means: trying everything, mostly without the package's own code."""
 
+import collections
 import functools
 import itertools
 import random
@@ -95,6 +96,49 @@ def states_read(reader, tree):
             state, row = rows[row][states[place]]
         found.append(state)
     return tuple(found)
+
+
+def written_out(line):
+    """The line that a long line of few nodes stands for."""
+    outside, pieces = line
+    return line_of_states(outside, [state for word, times in pieces for _ in range(times) for state in word])
+
+
+def first_nodes(line, many):
+    """The long line of the first nodes of a long line."""
+    outside, pieces = line
+    kept = []
+    for word, times in pieces:
+        copies, more = divmod(min(many, len(word) * times), len(word))
+        kept += [(word, copies)] * (copies > 0) + [(word[:more], 1)] * (more > 0)
+        many -= copies * len(word) + more
+    return (outside, tuple(kept))
+
+
+def counted_by_doubling(table, start, pieces):
+    """How often each thing is found in a line, where table[key][state] is a tuple (found, next key).
+
+    What so many copies of a word do is put together from what 1, 2, 4, 8 .. copies do.
+    """
+    counts, key = collections.Counter(), start
+    for word, times in pieces:
+        power = {begin: word_by_table(table, begin, word) for begin in table}
+        while times:
+            if times % 2:
+                counts, key = counts + power[key][0], power[key][1]
+            power = {
+                begin: (found + power[behind][0], power[behind][1]) for begin, (found, behind) in power.items()
+            }
+            times //= 2
+    return counts
+
+
+def word_by_table(table, key, word):
+    counts = collections.Counter()
+    for state in word:
+        found, key = table[key][state]
+        counts[found] += 1
+    return (counts, key)
 
 
 def nodes_of_two_rests(book, most):

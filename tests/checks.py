@@ -17,13 +17,16 @@ STEPS = ([], [[step] for step in NEVER_STEPS], BadStep)
 
 def check_book_and_tree(case, asked, *rest):
     """BadBook, then BadTree, of a function that takes a book and a tree first."""
-    check_order(case, asked, [BOOK, TREE, *[(argument, [None], None) for argument in rest]], places=(0, 1))
+    check_order(case, asked, [BOOK, TREE, *[(argument, [None], None) for argument in rest]])
 
 
-def check_order(case, asked, parameters, places=None):
-    """Each wrong argument raises its error, whatever stands behind it, where those before it are good."""
+def check_order(case, asked, parameters):
+    """Each wrong argument raises its error, whatever stands behind it, where those before it are good.
+
+    A parameter whose error is None is asked with its good argument only, or behind a wrong one.
+    """
     for place, (_, wrong, error) in enumerate(parameters):
-        if places is not None and place not in places:
+        if error is None:
             continue
         before = [good for good, _, _ in parameters[:place]]
         good_rest = [good for good, _, _ in parameters[place + 1:]]

@@ -212,7 +212,7 @@ class EndingHolds(unittest.TestCase):
         check_answers(self, ending_holds, [RINGS, ("ring", 1, [1, 2, 3])], ["book", "certificate"])
 
     def test_errors(self):
-        check_order(self, ending_holds, [BOOK, (("ranks", ((0, 0), (1, 0))), [None], None)], places=(0,))
+        check_order(self, ending_holds, [BOOK, (("ranks", ((0, 0), (1, 0))), [None], None)])
 
 
 class StepBounds(unittest.TestCase):

@@ -6,7 +6,8 @@ import inspect
 import pathlib
 import unittest
 
-from onerest import books, compared, ends, errors, hands, outcomes, readers, trees, ways, wishes
+from onerest import books, compared, ends, errors, hands, longlines, outcomes, readers, rounds, trees, unknown, ways
+from onerest import wishes
 
 FOLDER = pathlib.Path(__file__).resolve().parent.parent / "onerest"
 FILES = sorted(FOLDER.glob("*.py"))
@@ -49,6 +50,18 @@ INTERFACE = {
     (hands, "touched_states"): ["book", "held"],
     (wishes, "least_changes"): ["book", "tree", "node", "state"],
     (wishes, "shortest_with"): ["book", "outside", "above", "own"],
+    (longlines, "long_length"): ["book", "line"],
+    (longlines, "long_state"): ["book", "line", "index"],
+    (longlines, "long_rest_state"): ["book", "line", "index"],
+    (longlines, "long_rest_counts"): ["book", "line"],
+    (longlines, "long_rest_index"): ["book", "line", "state", "number"],
+    (longlines, "long_change"): ["book", "line", "index", "state"],
+    (unknown, "possible_rests"): ["book", "open_tree"],
+    (unknown, "filling_for"): ["book", "open_tree", "node", "state"],
+    (unknown, "count_sources"): ["book", "tree"],
+    (unknown, "count_rests"): ["book", "tree"],
+    (rounds, "run_round"): ["book", "tree", "order"],
+    (rounds, "count_rounds"): ["book", "tree", "order"],
     (errors, "BadStep"): ["place"],
     (errors, "BadWay"): ["place"],
     (errors, "BadText"): ["line"],
@@ -56,10 +69,10 @@ INTERFACE = {
 
 # The builtins and the methods of their values that the package uses, all of them plain ones.
 BUILTINS = {
-    "ValueError", "all", "any", "dict", "enumerate", "int", "bool", "isinstance", "len", "list", "max", "min", "range",
+    "ValueError", "all", "any", "dict", "divmod", "enumerate", "int", "bool", "isinstance", "len", "list", "max", "min", "range",
     "set", "sorted", "str", "sum", "tuple", "zip",
 }
-METHODS = {"append", "extend", "get", "index", "setdefault", "__init__"}
+METHODS = {"append", "count", "extend", "get", "index", "setdefault", "__init__"}
 STATEMENTS = (ast.Global, ast.Nonlocal, ast.Try, ast.With, ast.AsyncFunctionDef, ast.Yield, ast.GeneratorExp, ast.Set)
 
 
