@@ -4,7 +4,7 @@ from onerest.books import check_book, check_state
 from onerest.outcomes import check_settled
 from onerest.readers import reader_of, run_from_top
 from onerest.rows import first_unlike
-from onerest.trees import check_node, check_tree, line_of
+from onerest.trees import check_node, check_tree, line_of, with_state
 
 
 def check_settled_node(book, tree, node, state):
@@ -18,10 +18,8 @@ def check_settled_node(book, tree, node, state):
 def changed_nodes(book, tree, node, state):
     """The nodes, ascending, whose rests are other ones if the node begins in this state."""
     check_settled_node(book, tree, node, state)
-    outside, parents, states = tree
-    changed = (outside, parents, states[:node] + (state,) + states[node + 1:])
     rests = run_from_top(book, tree)[1][2]
-    other_rests = run_from_top(book, changed)[1][2]
+    other_rests = run_from_top(book, with_state(tree, node, state))[1][2]
     return [k for k in range(len(rests)) if rests[k] != other_rests[k]]
 
 

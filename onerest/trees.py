@@ -1,7 +1,7 @@
 """Trees: tuples (outside, parents, states); the steps that can be taken in them, and runs."""
 
 from onerest.books import check_book, fitting_rules
-from onerest.errors import BadStep, BadTree, NoNode
+from onerest.errors import BadStep, BadTree, NoNode, TooMany
 from onerest.kinds import are_numbers_below, is_integer_from, is_number_below, is_tuple_of
 
 MOST_NODES = 250
@@ -46,6 +46,36 @@ def check_node(tree, thing):
     """Raise NoNode for an object that is not the number of a node of the tree."""
     if not is_number_below(thing, len(tree[1])):
         raise NoNode("this object is not the number of a node")
+
+
+def check_parent(tree, thing):
+    """Raise NoNode for an object that is neither -1 nor the number of a node of the tree."""
+    if not is_integer_from(thing, NO_PARENT, len(tree[1]) - 1):
+        raise NoNode("this object is neither -1 nor the number of a node")
+
+
+def check_room(tree):
+    """Raise TooMany for a tree that has as many nodes as there may be."""
+    if len(tree[1]) >= MOST_NODES:
+        raise TooMany("the tree has as many nodes as there may be")
+
+
+def with_outside(tree, outside):
+    """The tree with another outside."""
+    _, parents, states = tree
+    return (outside, parents, states)
+
+
+def with_state(tree, node, state):
+    """The tree with another state of a node; nothing else changes."""
+    outside, parents, states = tree
+    return (outside, parents, (*states[:node], state, *states[node + 1:]))
+
+
+def with_node(tree, parent, state):
+    """The tree with one node more, which has the next number."""
+    outside, parents, states = tree
+    return (outside, (*parents, parent), (*states, state))
 
 
 def state_above(book, tree, node):

@@ -6,8 +6,8 @@ import inspect
 import pathlib
 import unittest
 
-from onerest import books, compared, ends, errors, hands, longlines, outcomes, readers, rounds, trees, unknown, ways
-from onerest import wishes
+from onerest import books, compared, desk, ends, errors, hands, live, longlines, outcomes, readers, rounds, rulebooks
+from onerest import texts, trees, unknown, ways, wishes
 
 FOLDER = pathlib.Path(__file__).resolve().parent.parent / "onerest"
 FILES = sorted(FOLDER.glob("*.py"))
@@ -62,17 +62,44 @@ INTERFACE = {
     (unknown, "count_rests"): ["book", "tree"],
     (rounds, "run_round"): ["book", "tree", "order"],
     (rounds, "count_rounds"): ["book", "tree", "order"],
+    (rulebooks, "RuleBook"): ["n"],
+    (live, "Live"): ["book", "tree"],
+    (texts, "show_book"): ["book"],
+    (texts, "show_tree"): ["book", "tree"],
+    (texts, "show_run"): ["steps"],
+    (texts, "read_book"): ["text"],
+    (texts, "read_tree"): ["book", "text"],
+    (texts, "read_run"): ["text"],
+    (desk, "Desk"): [],
     (errors, "BadStep"): ["place"],
     (errors, "BadWay"): ["place"],
     (errors, "BadText"): ["line"],
 }
 
+# The parameters of the methods that the interface names; those of signs may have any name.
+CLASSES = {
+    rulebooks.RuleBook: {"is_within": ["other"], "__call__": ["tree"], "told": []},
+    live.Live: {
+        "fire": ["node", "rule"], "add": ["parent", "state"], "settle": [], "apply": ["changes"], "undo": [],
+        "tree": [], "changes": [], "copy": [],
+    },
+    desk.Desk: {"say": ["row"]},
+}
+SIGNS = {
+    rulebooks.RuleBook: ["__add__", "__sub__", "__contains__", "__len__", "__getitem__", "__eq__"],
+    live.Live: ["__getitem__", "__setitem__", "__len__", "__contains__", "__eq__"],
+    desk.Desk: [],
+}
+
 # The builtins and the methods of their values that the package uses, all of them plain ones.
 BUILTINS = {
-    "ValueError", "all", "any", "dict", "divmod", "enumerate", "int", "bool", "isinstance", "len", "list", "max", "min", "range",
-    "set", "sorted", "str", "sum", "tuple", "zip",
+    "TypeError", "ValueError", "all", "any", "dict", "divmod", "enumerate", "int", "bool", "isinstance", "len", "list",
+    "max", "min", "range", "set", "sorted", "str", "sum", "tuple", "zip",
 }
-METHODS = {"append", "count", "extend", "get", "index", "setdefault", "__init__"}
+METHODS = {
+    "append", "count", "extend", "get", "index", "isascii", "isdigit", "join", "pop", "setdefault", "split", "__init__",
+}
+OWN_METHODS = {"told", "changes", "_become", "_with_state"}
 STATEMENTS = (ast.Global, ast.Nonlocal, ast.Try, ast.With, ast.AsyncFunctionDef, ast.Yield, ast.GeneratorExp, ast.Set)
 
 
@@ -87,6 +114,19 @@ def names_bound(tree):
             yield node.id
 
 
+def is_above(function, node):
+    return isinstance(function, ast.FunctionDef) and function.lineno < node.lineno
+
+
+def functions_in(tree):
+    """The functions of a file, and the methods of its classes."""
+    for node in tree.body:
+        if isinstance(node, ast.FunctionDef):
+            yield node
+        elif isinstance(node, ast.ClassDef):
+            yield from [part for part in node.body if isinstance(part, ast.FunctionDef)]
+
+
 class Form(unittest.TestCase):
     def test_names_and_parameters_stand_as_the_interface_lists_them(self):
         for (module, name), parameters in INTERFACE.items():
@@ -94,6 +134,14 @@ class Form(unittest.TestCase):
                 found = getattr(module, name)
                 self.assertEqual(found.__module__, module.__name__)
                 self.assertEqual(list(inspect.signature(found).parameters), parameters)
+
+    def test_methods_stand_in_the_classes_that_the_interface_lists_them_for(self):
+        for found, methods in CLASSES.items():
+            for name, parameters in methods.items():
+                with self.subTest(name=name):
+                    self.assertEqual(list(inspect.signature(vars(found)[name]).parameters), ["self", *parameters])
+            for name in SIGNS[found]:
+                self.assertIn(name, vars(found))
 
     def test_the_folder_holds_python_files_only(self):
         others = [path.name for path in FOLDER.iterdir() if path not in FILES and path.name != "__pycache__"]
@@ -125,7 +173,14 @@ class Form(unittest.TestCase):
             for node in rest:
                 self.assertIsInstance(node, (ast.ImportFrom, ast.FunctionDef, ast.ClassDef, ast.Assign), path)
                 if isinstance(node, ast.Assign):
-                    ast.literal_eval(node.value)
+                    self.check_plain_value(node.value, {other.name for other in rest if is_above(other, node)})
+
+    def check_plain_value(self, value, functions):
+        """Literals only, or a dict of words and of functions that are defined above it."""
+        if isinstance(value, ast.Dict) and all(isinstance(part, ast.Name) for part in value.values):
+            self.assertLessEqual({part.id for part in value.values}, functions)
+            value = ast.List(elts=value.keys)
+        ast.literal_eval(value)
 
     def test_no_name_has_two_meanings(self):
         for path in FILES:
@@ -133,8 +188,7 @@ class Form(unittest.TestCase):
             taken = {alias.name for node in tree.body if isinstance(node, ast.ImportFrom) for alias in node.names}
             taken |= {node.name for node in tree.body if isinstance(node, ast.ClassDef)}
             locals_bound = {
-                name for node in tree.body if isinstance(node, ast.FunctionDef)
-                for name in names_bound(ast.Module(body=[node], type_ignores=[]))
+                name for node in functions_in(tree) for name in names_bound(ast.Module(body=[node], type_ignores=[]))
             }
             self.assertEqual(locals_bound & taken, set(), path)
             self.assertEqual(set(names_bound(tree)) & set(dir(builtins)), set(), path)
@@ -147,7 +201,7 @@ class Form(unittest.TestCase):
                 if isinstance(node, ast.Name) and node.id in dir(builtins):
                     self.assertIn(node.id, BUILTINS, path)
                 if isinstance(node, ast.Call) and isinstance(node.func, ast.Attribute):
-                    self.assertIn(node.func.attr, METHODS, path)
+                    self.assertIn(node.func.attr, METHODS | OWN_METHODS, path)
 
 
 if __name__ == "__main__":
