@@ -11,6 +11,7 @@ from onerest.rulebooks import RuleBook
 from onerest.texts import book_lines, tree_lines, values_in
 from onerest.trees import check_node, check_parent, check_room, enabled_steps, with_node, with_outside, with_state
 
+EMPTY_TREE = (0, (), ())
 # The kinds of the parts behind each word.
 FORMS = {
     "states": ("number",),
@@ -32,53 +33,53 @@ FORMS = {
 }
 
 
-def make_book(book, tree, values):
+def make_book(rules, tree, values):
     """A book with so many states and no rules, and the empty tree."""
-    return (RuleBook(values[0]), (0, (), ()))
+    return (RuleBook(values[0]), EMPTY_TREE)
 
 
-def put_rule(book, tree, values):
+def put_rule(rules, tree, values):
     """The book with a rule more."""
     above, own, new, signal = values
-    told = book.told()
+    told = rules.told()
     if len(signal) != told[0]:
         raise BadState("the signal has too few or too many states")
     for state in (above, own, new, *signal):
         check_state(told, state)
-    return (book + (above, own, new, signal), tree)
+    return (rules + (above, own, new, signal), tree)
 
 
-def drop_rule(book, tree, values):
+def drop_rule(rules, tree, values):
     """The book without a rule."""
-    return (book - book[values[0]], tree)
+    return (rules - rules[values[0]], tree)
 
 
-def change_outside(book, tree, values):
+def change_outside(rules, tree, values):
     """The tree with another outside."""
-    check_state(book.told(), values[0])
-    return (book, with_outside(tree, values[0]))
+    check_state(rules.told(), values[0])
+    return (rules, with_outside(tree, values[0]))
 
 
-def add_node(book, tree, values):
+def add_node(rules, tree, values):
     """The tree with a node more."""
     parent, state = values
-    check_state(book.told(), state)
+    check_state(rules.told(), state)
     check_parent(tree, parent)
     check_room(tree)
-    return (book, with_node(tree, parent, state))
+    return (rules, with_node(tree, parent, state))
 
 
-def set_state(book, tree, values):
+def set_state(rules, tree, values):
     """The tree with another state of a node."""
     node, state = values
-    check_state(book.told(), state)
+    check_state(rules.told(), state)
     check_node(tree, node)
-    return (book, with_state(tree, node, state))
+    return (rules, with_state(tree, node, state))
 
 
-def settle_tree(book, tree, values):
+def settle_tree(rules, tree, values):
     """The rest in the place of the tree."""
-    return (book, book(tree))
+    return (rules, rules(tree))
 
 
 def show_lines_of_book(book, tree):
@@ -94,7 +95,9 @@ def show_lines_of_tree(book, tree):
 def show_ending(book, tree):
     """Whether all runs end, and the greatest rank if they do."""
     ending = ending_of(book)
-    return f"yes {max([max(row) for row in ending[1]])}" if ending[0] == "ranks" else "no"
+    if ending[0] == "ring":
+        return "no"
+    return f"yes {max([max(row) for row in ending[1]])}"
 
 
 def show_outcome(book, tree):
@@ -136,6 +139,7 @@ def listed(numbers, nothing):
     return " ".join([str(number) for number in numbers]) if len(numbers) > 0 else nothing
 
 
+# What rows do: functions of a RuleBook, a tree and the values in the row, which return both anew.
 CHANGES = {
     "states": make_book,
     "rule": put_rule,
@@ -145,6 +149,7 @@ CHANGES = {
     "set": set_state,
     "settle": settle_tree,
 }
+# What rows ask: functions of a book and a tree, which return texts.
 ANSWERS = {
     "book": show_lines_of_book,
     "tree": show_lines_of_tree,
@@ -175,15 +180,15 @@ class Desk:
     """Holds a book, at first of one state and without rules, and a tree of it, at first the empty one."""
 
     def __init__(self):
-        self._book = RuleBook(1)
-        self._tree = (0, (), ())
+        self._rules = RuleBook(1)
+        self._tree = EMPTY_TREE
 
     def say(self, row):
         """The answer to a row; behind an error nothing has changed."""
         word, values = read_row(row)
         if word in CHANGES:
             change = CHANGES[word]
-            self._book, self._tree = change(self._book, self._tree, values)
+            self._rules, self._tree = change(self._rules, self._tree, values)
             return "ok"
         answer = ANSWERS[word]
-        return answer(self._book.told(), self._tree)
+        return answer(self._rules.told(), self._tree)

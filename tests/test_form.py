@@ -166,6 +166,25 @@ class Form(unittest.TestCase):
                 if isinstance(node, ast.ImportFrom):
                     self.assertEqual(node.module.split(".")[0], "onerest", path)
 
+    def test_names_are_imported_from_the_files_that_define_them_and_not_in_a_ring(self):
+        defined, asked = {}, {}
+        for path in FILES:
+            body = ast.parse(path.read_text()).body
+            defined[path.stem] = {node.name for node in body if isinstance(node, (ast.FunctionDef, ast.ClassDef))}
+            defined[path.stem] |= {node.targets[0].id for node in body if isinstance(node, ast.Assign)}
+            asked[path.stem] = [
+                (node.module.split(".")[1], alias.name)
+                for node in body if isinstance(node, ast.ImportFrom) for alias in node.names
+            ]
+        above = {file: {other for other, _ in names} for file, names in asked.items()}
+        for file, names in asked.items():
+            for other, name in names:
+                self.assertIn(name, defined[other], file)
+        while any(above.values()):
+            done = {file for file in above if not above[file]}
+            above = {file: others - done for file, others in above.items() if file not in done}
+            self.assertTrue(done, above)
+
     def test_module_level_holds_no_code(self):
         for path in FILES:
             docstring, *rest = ast.parse(path.read_text()).body
